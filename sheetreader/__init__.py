@@ -1,0 +1,1 @@
+"""Sheets filled by hand, read right or told unsure."""
